@@ -1,0 +1,45 @@
+// Package rule holds what the voting rules have in common: what they require of their arguments, choices by lot, and rounds of whole numbers.
+package rule
+
+import (
+	"slices"
+
+	"suffrage/api"
+	"suffrage/ballot"
+	"suffrage/profile"
+	"suffrage/ratio"
+)
+
+// Check returns ErrBad unless p is valid and has ballots of the kind; otherwise ErrArg unless seats is between 1 and most and lot is a permutation of the candidates.
+func Check(p api.Profile, kind uint8, seats, most int, lot []int) api.Errno {
+	if profile.Check(p) != api.OK || p.Kind != kind {
+		return api.ErrBad
+	}
+	if seats < 1 || seats > most || !isLot(lot, p.Cands) {
+		return api.ErrArg
+	}
+	return api.OK
+}
+
+// isLot reports whether lot has each of cands candidates once, that is, whether it is a ranking of all of them.
+func isLot(lot []int, cands int) bool {
+	return len(lot) == cands && ballot.Check(api.Ballot{Kind: api.KindRank, Marks: lot}, cands) == api.OK
+}
+
+// First returns the one of among that comes first in the lot, and the tie if there are several. Among is in ascending order, and at least one of it is in the lot.
+func First(among, lot []int) (chosen int, ties []api.Tie) {
+	chosen = lot[slices.IndexFunc(lot, func(c int) bool { return slices.Contains(among, c) })]
+	if len(among) > 1 {
+		ties = []api.Tie{{Among: slices.Clone(among), Chosen: chosen}}
+	}
+	return chosen, ties
+}
+
+// Round returns a round with these totals of the candidates and of what is lost.
+func Round(had []int, lost int) api.Round {
+	round := api.Round{Lost: ratio.Whole(lost)}
+	for _, n := range had {
+		round.Had = append(round.Had, ratio.Whole(n))
+	}
+	return round
+}
