@@ -50,7 +50,5 @@ func outcome(numbers []int, divisor int64, best int, lot []int) api.Outcome {
 			among = append(among, c)
 		}
 	}
-	winner, ties := rule.First(among, lot)
-	round.Elected = []int{winner}
-	return api.Outcome{Elected: []int{winner}, Rounds: []api.Round{round}, Ties: ties}
+	return rule.Elect(round, among, lot)
 }

@@ -26,8 +26,5 @@ func outcome(had, lot []int) api.Outcome {
 			among = append(among, c)
 		}
 	}
-	winner, ties := rule.First(among, lot)
-	round := rule.Round(had, 0)
-	round.Elected = []int{winner}
-	return api.Outcome{Elected: []int{winner}, Rounds: []api.Round{round}, Ties: ties}
+	return rule.Elect(rule.Round(had, 0), among, lot)
 }

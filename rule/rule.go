@@ -15,14 +15,14 @@ func Check(p api.Profile, kind uint8, seats, most int, lot []int) api.Errno {
 	if profile.Check(p) != api.OK || p.Kind != kind {
 		return api.ErrBad
 	}
-	if seats < 1 || seats > most || !isLot(lot, p.Cands) {
+	if seats < 1 || seats > most || !IsLot(lot, p.Cands) {
 		return api.ErrArg
 	}
 	return api.OK
 }
 
-// isLot reports whether lot has each of cands candidates once, that is, whether it is a ranking of all of them.
-func isLot(lot []int, cands int) bool {
+// IsLot reports whether lot has each of cands candidates once, that is, whether it is a ranking of all of them. There is no lot if cands is not between 1 and MaxCands.
+func IsLot(lot []int, cands int) bool {
 	return len(lot) == cands && ballot.Check(api.Ballot{Kind: api.KindRank, Marks: lot}, cands) == api.OK
 }
 
@@ -42,4 +42,11 @@ func Round(had []int, lost int) api.Round {
 		round.Had = append(round.Had, ratio.Whole(n))
 	}
 	return round
+}
+
+// Elect returns the outcome of this round alone, in which the one of among that comes first in the lot is elected to the only seat. Among is as for First.
+func Elect(round api.Round, among, lot []int) api.Outcome {
+	winner, ties := First(among, lot)
+	round.Elected = []int{winner}
+	return api.Outcome{Elected: []int{winner}, Rounds: []api.Round{round}, Ties: ties}
 }

@@ -72,6 +72,35 @@ func TestCheckOfLots(t *testing.T) {
 	}
 }
 
+func checkIsLot(t *testing.T, lot []int, cands int, want bool) {
+	t.Helper()
+	if rule.IsLot(lot, cands) != want {
+		t.Errorf("IsLot(%v, %d) = %v", lot[:min(len(lot), 50)], cands, !want)
+	}
+}
+
+func TestIsLot(t *testing.T) {
+	upTo := make([]int, 12)
+	for i := range upTo {
+		upTo[i] = i
+	}
+	for cands := range len(upTo) {
+		for have := range len(upTo) {
+			checkIsLot(t, upTo[:have], cands, have == cands && cands >= 1 && cands <= 10)
+		}
+	}
+	checkIsLot(t, []int{2, 0, 3, 1}, 4, true)
+	checkIsLot(t, []int{3, 2, 1, 0}, 4, true)
+	for _, lot := range [][]int{nil, {}, {0, 1, 2}, {0, 1, 2, 2}, {1, 2, 3, 4}, {-1, 0, 1, 2}, {0, 1, 2, math.MaxInt}, {0, 1, 2, 1<<32 + 3}, {0, 1, 2, 3, 3}} {
+		checkIsLot(t, lot, 4, false)
+	}
+	for _, cands := range []int{math.MinInt, -1, 11, 1<<32 + 2, math.MaxInt} {
+		checkIsLot(t, nil, cands, false)
+		checkIsLot(t, []int{0, 1}, cands, false)
+	}
+	checkIsLot(t, make([]int, 1<<16), 1<<16, false)
+}
+
 func checkFirst(t *testing.T, among, lot []int, want int, wantTies ...api.Tie) {
 	t.Helper()
 	chosen, ties := rule.First(among, lot)
@@ -115,6 +144,31 @@ func TestRound(t *testing.T) {
 	if none := rule.Round(nil, 0); len(none.Had) != 0 || textOf(none.Lost) != "0" {
 		t.Errorf("the round without candidates is %v", none)
 	}
+}
+
+func checkElect(t *testing.T, among, lot []int, want int, wantTies ...api.Tie) {
+	t.Helper()
+	o := rule.Elect(rule.Round([]int{4, 0, 9}, 2), among, lot)
+	if !slices.Equal(o.Elected, []int{want}) || len(o.Rounds) != 1 || !slices.EqualFunc(o.Ties, wantTies, func(x, y api.Tie) bool { return slices.Equal(x.Among, y.Among) && x.Chosen == y.Chosen }) {
+		t.Fatalf("Elect(.., %v, %v) = %v; want %d, %v", among, lot, o, want, wantTies)
+	}
+	r := o.Rounds[0]
+	if !slices.Equal(r.Elected, []int{want}) || len(r.Out) != 0 || len(r.Had) != 3 || textOf(r.Had[0])+textOf(r.Had[1])+textOf(r.Had[2])+textOf(r.Lost) != "4092" {
+		t.Errorf("Elect(.., %v, %v) has the round %v", among, lot, r)
+	}
+	o.Elected[0] = 7 // which is not the round's
+	if r.Elected[0] != want {
+		t.Errorf("Elect(.., %v, %v) shares its memory with the round", among, lot)
+	}
+}
+
+func TestElect(t *testing.T) {
+	lot := []int{1, 2, 0}
+	for c := range 3 {
+		checkElect(t, []int{c}, lot, c)
+	}
+	checkElect(t, []int{0, 1, 2}, lot, 1, api.Tie{Among: []int{0, 1, 2}, Chosen: 1})
+	checkElect(t, []int{0, 2}, lot, 2, api.Tie{Among: []int{0, 2}, Chosen: 2})
 }
 
 func textOf(x api.Ratio) string {
