@@ -1,4 +1,4 @@
-// Package rule holds what the voting rules have in common: what they require of their arguments, choices by lot, and rounds of whole numbers.
+// Package rule holds what the voting rules have in common: what they require of their arguments, choices by lot, rounds of whole numbers, and the state of a count that eliminates one candidate after the other.
 package rule
 
 import (
@@ -33,6 +33,13 @@ func First(among, lot []int) (chosen int, ties []api.Tie) {
 		ties = []api.Tie{{Among: slices.Clone(among), Chosen: chosen}}
 	}
 	return chosen, ties
+}
+
+// Last is like First, but returns the one of among that comes last in the lot.
+func Last(among, lot []int) (chosen int, ties []api.Tie) {
+	lot = slices.Clone(lot)
+	slices.Reverse(lot)
+	return First(among, lot)
 }
 
 // Round returns a round with these totals of the candidates and of what is lost.

@@ -131,6 +131,35 @@ func TestFirstSharesNothing(t *testing.T) {
 	}
 }
 
+func checkLast(t *testing.T, among, lot []int, want int, wantTies ...api.Tie) {
+	t.Helper()
+	chosen, ties := rule.Last(among, lot)
+	if chosen != want || !slices.EqualFunc(ties, wantTies, func(x, y api.Tie) bool { return slices.Equal(x.Among, y.Among) && x.Chosen == y.Chosen }) {
+		t.Errorf("Last(%v, %v) = %d, %v; want %d, %v", among, lot, chosen, ties, want, wantTies)
+	}
+}
+
+func TestLast(t *testing.T) {
+	lot := []int{3, 1, 4, 0, 2}
+	for c := range lot {
+		checkLast(t, []int{c}, lot, c)
+	}
+	checkLast(t, []int{0, 1, 2, 3, 4}, lot, 2, api.Tie{Among: []int{0, 1, 2, 3, 4}, Chosen: 2})
+	checkLast(t, []int{0, 1, 4}, lot, 0, api.Tie{Among: []int{0, 1, 4}, Chosen: 0})
+	checkLast(t, []int{1, 3}, lot, 1, api.Tie{Among: []int{1, 3}, Chosen: 1})
+	checkLast(t, []int{3, 4}, lot, 4, api.Tie{Among: []int{3, 4}, Chosen: 4})
+}
+
+func TestLastSharesNothing(t *testing.T) {
+	among, lot := []int{0, 2, 9, 9}[:2], []int{1, 2, 0, 9}[:3]
+	_, ties := rule.Last(among, lot)
+	_ = append(ties[0].Among, 7)
+	ties[0].Among[0], ties[0].Among[1] = 5, 6
+	if !slices.Equal(among[:4], []int{0, 2, 9, 9}) || !slices.Equal(lot[:4], []int{1, 2, 0, 9}) {
+		t.Errorf("the arguments become %v and %v", among[:4], lot[:4])
+	}
+}
+
 func TestRound(t *testing.T) {
 	round := rule.Round([]int{0, 7, api.MaxMany * api.MaxScore}, 12)
 	if len(round.Had) != 3 || len(round.Elected) != 0 || len(round.Out) != 0 {

@@ -1,0 +1,68 @@
+package rule
+
+import (
+	"slices"
+
+	"suffrage/api"
+)
+
+// Rounds is the state of a count that fills its only seat in rounds: in each round a candidate is eliminated, until one is elected. The state of a rule's count embeds it.
+type Rounds struct {
+	lot     []int
+	left    []int       // the candidates that are left, in ascending order
+	outcome api.Outcome // of the rounds so far
+}
+
+// NewRounds returns the state before the first round, when all candidates of the lot are left.
+func NewRounds(lot []int) Rounds {
+	return Rounds{lot: lot, left: slices.Sorted(slices.Values(lot))}
+}
+
+// Left tells for each candidate whether it is left.
+func (r *Rounds) Left() []bool {
+	left := make([]bool, len(r.lot))
+	for _, c := range r.left {
+		left[c] = true
+	}
+	return left
+}
+
+// Winner returns the candidate that a round elects in which the candidates have these ballots, of which those that are not left have none: one with more than half of them, or the only one that is left. It returns false if there is none.
+func (r *Rounds) Winner(had []int) (int, bool) {
+	all := 0
+	for _, n := range had {
+		all += n
+	}
+	for _, c := range r.left {
+		if len(r.left) == 1 || had[c] > all-had[c] {
+			return c, true
+		}
+	}
+	return 0, false
+}
+
+// Least returns the candidates with the least number among those that are left, in ascending order.
+func (r *Rounds) Least(numbers []int) []int {
+	least := numbers[r.left[0]]
+	for _, c := range r.left {
+		least = min(least, numbers[c])
+	}
+	return slices.DeleteFunc(slices.Clone(r.left), func(c int) bool { return numbers[c] > least })
+}
+
+// Eliminate ends the round with the elimination of the one of among that comes last in the lot. Among is as for First.
+func (r *Rounds) Eliminate(round api.Round, among []int) {
+	out, ties := Last(among, r.lot)
+	r.left = slices.DeleteFunc(r.left, func(c int) bool { return c == out })
+	round.Out = []int{out}
+	r.outcome.Rounds = append(r.outcome.Rounds, round)
+	r.outcome.Ties = append(r.outcome.Ties, ties...)
+}
+
+// Elect ends the round, and the count, with the election of the winner, and returns the outcome.
+func (r *Rounds) Elect(round api.Round, winner int) api.Outcome {
+	round.Elected = []int{winner}
+	r.outcome.Rounds = append(r.outcome.Rounds, round)
+	r.outcome.Elected = []int{winner}
+	return r.outcome
+}

@@ -1,0 +1,128 @@
+package rule_test
+
+import (
+	"slices"
+	"testing"
+
+	"suffrage/api"
+	"suffrage/rule"
+)
+
+// after returns the state after these candidates have been eliminated, in this order.
+func after(lot []int, out ...int) rule.Rounds {
+	r := rule.NewRounds(lot)
+	for _, c := range out {
+		r.Eliminate(rule.Round(make([]int, len(lot)), 0), []int{c})
+	}
+	return r
+}
+
+func TestLeft(t *testing.T) {
+	lot := []int{2, 0, 3, 1}
+	for _, c := range []struct {
+		out  []int
+		want []bool
+	}{
+		{nil, []bool{true, true, true, true}},
+		{[]int{2}, []bool{true, true, false, true}},
+		{[]int{2, 0}, []bool{false, true, false, true}},
+		{[]int{3, 0, 1}, []bool{false, false, true, false}},
+	} {
+		r := after(lot, c.out...)
+		if left := r.Left(); !slices.Equal(left, c.want) {
+			t.Errorf("after %v are out, %v are left", c.out, left)
+		}
+		r.Left()[2] = !c.want[2] // which is not the state's
+		if left := r.Left(); !slices.Equal(left, c.want) {
+			t.Errorf("after %v are out, and a change, %v are left", c.out, left)
+		}
+	}
+	one := after([]int{0})
+	if left := one.Left(); !slices.Equal(left, []bool{true}) {
+		t.Errorf("of one candidate, %v is left", left)
+	}
+}
+
+func checkWinner(t *testing.T, r rule.Rounds, had []int, want int, wantOK bool) {
+	t.Helper()
+	if c, ok := r.Winner(had); c != want || ok != wantOK {
+		t.Errorf("with %v ballots, the winner is %d, %v; want %d, %v", had, c, ok, want, wantOK)
+	}
+}
+
+func TestWinner(t *testing.T) {
+	all := after([]int{2, 0, 1})
+	checkWinner(t, all, []int{0, 0, 0}, 0, false)
+	checkWinner(t, all, []int{5, 3, 2}, 0, false)
+	checkWinner(t, all, []int{6, 3, 2}, 0, true)
+	checkWinner(t, all, []int{2, 3, 6}, 2, true)
+	checkWinner(t, all, []int{3, 5, 3}, 0, false)
+	checkWinner(t, all, []int{0, 1, 0}, 1, true)
+	checkWinner(t, all, []int{499999, 1, 500000}, 0, false)
+	two := after([]int{2, 0, 1}, 1)
+	checkWinner(t, two, []int{0, 0, 0}, 0, false)
+	checkWinner(t, two, []int{7, 0, 7}, 0, false)
+	checkWinner(t, two, []int{7, 0, 8}, 2, true)
+	checkWinner(t, after([]int{2, 0, 1}, 0, 2), []int{0, 0, 0}, 1, true)
+	checkWinner(t, after([]int{2, 0, 1}, 0, 2), []int{0, 9, 0}, 1, true)
+	checkWinner(t, after([]int{0}), []int{0}, 0, true)
+}
+
+func checkLeast(t *testing.T, r rule.Rounds, numbers []int, want ...int) {
+	t.Helper()
+	given := slices.Clone(numbers)
+	if l := r.Least(numbers); !slices.Equal(l, want) || !slices.Equal(numbers, given) {
+		t.Errorf("the least of %v is that of %v; want %v", given, l, want)
+	}
+}
+
+func TestLeast(t *testing.T) {
+	all := after([]int{1, 3, 2, 0})
+	checkLeast(t, all, []int{4, 3, 2, 1}, 3)
+	checkLeast(t, all, []int{1, 3, 2, 4}, 0)
+	checkLeast(t, all, []int{2, 1, 1, 4}, 1, 2)
+	checkLeast(t, all, []int{1, 3, 1, 1}, 0, 2, 3)
+	checkLeast(t, all, []int{0, 0, 0, 0}, 0, 1, 2, 3)
+	checkLeast(t, all, []int{-1, -2, 0, -2}, 1, 3)
+	all.Least([]int{0, 0, 0, 0})[0] = 3 // which is not the state's
+	checkLeast(t, all, []int{5, 5, 5, 5}, 0, 1, 2, 3)
+	some := after([]int{1, 3, 2, 0}, 0, 2)
+	checkLeast(t, some, []int{0, 4, 0, 5}, 1)
+	checkLeast(t, some, []int{0, 4, 0, 4}, 1, 3)
+	checkLeast(t, some, []int{9, 4, 9, 3}, 3)
+	checkLeast(t, after([]int{1, 3, 2, 0}, 0, 3, 1), []int{1, 2, 5, 3}, 2)
+}
+
+// A whole count: the rounds and the ties come in order, and the one that comes last in the lot is out.
+func TestRoundsOfACount(t *testing.T) {
+	lot := []int{2, 0, 3, 1}
+	given := slices.Clone(lot)
+	r := rule.NewRounds(lot)
+	among := []int{0, 1, 2, 9}[:3]
+	r.Eliminate(rule.Round([]int{1, 1, 1, 4}, 5), among)
+	r.Eliminate(rule.Round([]int{2, 0, 1, 4}, 6), []int{2})
+	r.Eliminate(rule.Round([]int{4, 0, 0, 4}, 7), []int{0, 3})
+	o := r.Elect(rule.Round([]int{8, 0, 0, 0}, 8), 0)
+	if !slices.Equal(o.Elected, []int{0}) || len(o.Rounds) != 4 || len(o.Ties) != 2 {
+		t.Fatalf("the outcome is %v", o)
+	}
+	for i, want := range []string{"11145", "20146", "40047", "80008"} {
+		text, round := "", o.Rounds[i]
+		for _, n := range append(slices.Clone(round.Had), round.Lost) {
+			text += textOf(n)
+		}
+		elected, out := [][]int{nil, nil, nil, {0}}[i], [][]int{{1}, {2}, {3}, nil}[i]
+		if text != want || !slices.Equal(round.Elected, elected) || !slices.Equal(round.Out, out) {
+			t.Errorf("round %d is %v", i, round)
+		}
+	}
+	for i, want := range []api.Tie{{Among: []int{0, 1, 2}, Chosen: 1}, {Among: []int{0, 3}, Chosen: 3}} {
+		if x := o.Ties[i]; !slices.Equal(x.Among, want.Among) || x.Chosen != want.Chosen {
+			t.Errorf("tie %d is %v; want %v", i, x, want)
+		}
+	}
+	o.Elected[0], o.Ties[0].Among[0] = 7, 7 // which are neither the round's nor an argument's
+	if o.Rounds[3].Elected[0] != 0 || among[0] != 0 || among[:4][3] != 9 || !slices.Equal(lot, given) {
+		t.Errorf("the memory of the outcome is shared: %v, %v, %v", o, among, lot)
+	}
+}
