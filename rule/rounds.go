@@ -43,11 +43,23 @@ func (r *Rounds) Winner(had []int) (int, bool) {
 
 // Least returns the candidates with the least number among those that are left, in ascending order.
 func (r *Rounds) Least(numbers []int) []int {
-	least := numbers[r.left[0]]
+	return r.foremost(numbers, func(n, other int) bool { return n < other })
+}
+
+// Most is like Least, but returns those with the greatest number.
+func (r *Rounds) Most(numbers []int) []int {
+	return r.foremost(numbers, func(n, other int) bool { return n > other })
+}
+
+// foremost returns the candidates, among those that are left, whose number no other one's is ahead of.
+func (r *Rounds) foremost(numbers []int, ahead func(n, other int) bool) []int {
+	best := numbers[r.left[0]]
 	for _, c := range r.left {
-		least = min(least, numbers[c])
+		if ahead(numbers[c], best) {
+			best = numbers[c]
+		}
 	}
-	return slices.DeleteFunc(slices.Clone(r.left), func(c int) bool { return numbers[c] > least })
+	return slices.DeleteFunc(slices.Clone(r.left), func(c int) bool { return numbers[c] != best })
 }
 
 // Eliminate ends the round with the elimination of the one of among that comes last in the lot. Among is as for First.

@@ -93,6 +93,31 @@ func TestLeast(t *testing.T) {
 	checkLeast(t, after([]int{1, 3, 2, 0}, 0, 3, 1), []int{1, 2, 5, 3}, 2)
 }
 
+func checkMost(t *testing.T, r rule.Rounds, numbers []int, want ...int) {
+	t.Helper()
+	given := slices.Clone(numbers)
+	if l := r.Most(numbers); !slices.Equal(l, want) || !slices.Equal(numbers, given) {
+		t.Errorf("the most of %v is that of %v; want %v", given, l, want)
+	}
+}
+
+func TestMost(t *testing.T) {
+	all := after([]int{1, 3, 2, 0})
+	checkMost(t, all, []int{1, 2, 3, 4}, 3)
+	checkMost(t, all, []int{4, 2, 3, 1}, 0)
+	checkMost(t, all, []int{3, 4, 4, 1}, 1, 2)
+	checkMost(t, all, []int{4, 3, 4, 4}, 0, 2, 3)
+	checkMost(t, all, []int{0, 0, 0, 0}, 0, 1, 2, 3)
+	checkMost(t, all, []int{-2, -1, -3, -1}, 1, 3)
+	all.Most([]int{0, 0, 0, 0})[0] = 3 // which is not the state's
+	checkMost(t, all, []int{5, 5, 5, 5}, 0, 1, 2, 3)
+	some := after([]int{1, 3, 2, 0}, 0, 2)
+	checkMost(t, some, []int{9, 4, 9, 5}, 3)
+	checkMost(t, some, []int{9, 4, 9, 4}, 1, 3)
+	checkMost(t, some, []int{0, 4, 0, 3}, 1)
+	checkMost(t, after([]int{1, 3, 2, 0}, 0, 3, 1), []int{9, 9, 5, 9}, 2)
+}
+
 // A whole count: the rounds and the ties come in order, and the one that comes last in the lot is out.
 func TestRoundsOfACount(t *testing.T) {
 	lot := []int{2, 0, 3, 1}
