@@ -32,7 +32,8 @@ func run(p api.Profile, rounds *rule.Rounds, by decider) api.Outcome {
 		had, lost, _ := runoff.Firsts(p, rounds.Left()) // its errors are those of profiles that are not valid
 		round := rule.Round(had, lost)
 		if winner, ok := by.Winner(had); ok {
-			return rounds.Elect(round, winner)
+			rounds.Elect(round, []int{winner})
+			return rounds.Outcome()
 		}
 		rounds.Eliminate(round, by.Losers())
 	}

@@ -6,7 +6,7 @@ import (
 	"suffrage/api"
 )
 
-// Rounds is the state of a count that fills its only seat in rounds: in each round a candidate is eliminated, until one is elected. The state of a rule's count embeds it.
+// Rounds is the state of a count in rounds, in each of which candidates are elected or one is eliminated, who are left no more after it. The state of a rule's count embeds it.
 type Rounds struct {
 	lot     []int
 	left    []int       // the candidates that are left, in ascending order
@@ -62,19 +62,47 @@ func (r *Rounds) foremost(numbers []int, ahead func(n, other int) bool) []int {
 	return slices.DeleteFunc(slices.Clone(r.left), func(c int) bool { return numbers[c] != best })
 }
 
-// Eliminate ends the round with the elimination of the one of among that comes last in the lot. Among is as for First.
-func (r *Rounds) Eliminate(round api.Round, among []int) {
+// Remaining returns how many candidates are left.
+func (r *Rounds) Remaining() int { return len(r.left) }
+
+// Eliminate ends the round with the elimination of the one of among that comes last in the lot, and returns it. Among is as for First.
+func (r *Rounds) Eliminate(round api.Round, among []int) int {
 	out, ties := Last(among, r.lot)
-	r.left = slices.DeleteFunc(r.left, func(c int) bool { return c == out })
+	r.remove(out, ties)
 	round.Out = []int{out}
 	r.outcome.Rounds = append(r.outcome.Rounds, round)
-	r.outcome.Ties = append(r.outcome.Ties, ties...)
+	return out
 }
 
-// Elect ends the round, and the count, with the election of the winner, and returns the outcome.
-func (r *Rounds) Elect(round api.Round, winner int) api.Outcome {
+// Elect ends the round with the election of the one of among that comes first in the lot, and returns it. Among is as for First.
+func (r *Rounds) Elect(round api.Round, among []int) int {
+	winner := r.seat(among)
 	round.Elected = []int{winner}
 	r.outcome.Rounds = append(r.outcome.Rounds, round)
-	r.outcome.Elected = []int{winner}
-	return r.outcome
+	return winner
+}
+
+// ElectAll ends the round with the election of all that are left, one at a time, each time one with the greatest number.
+func (r *Rounds) ElectAll(round api.Round, numbers []int) {
+	for len(r.left) > 0 {
+		round.Elected = append(round.Elected, r.seat(r.Most(numbers)))
+	}
+	r.outcome.Rounds = append(r.outcome.Rounds, round)
+}
+
+// Outcome returns the outcome of the rounds, after the last of them.
+func (r *Rounds) Outcome() api.Outcome { return r.outcome }
+
+// seat elects the one of among that comes first in the lot, and returns it.
+func (r *Rounds) seat(among []int) int {
+	winner, ties := First(among, r.lot)
+	r.remove(winner, ties)
+	r.outcome.Elected = append(r.outcome.Elected, winner)
+	return winner
+}
+
+// remove removes a candidate from those that are left, by a decision with these ties.
+func (r *Rounds) remove(c int, ties []api.Tie) {
+	r.left = slices.DeleteFunc(r.left, func(o int) bool { return o == c })
+	r.outcome.Ties = append(r.outcome.Ties, ties...)
 }

@@ -118,36 +118,106 @@ func TestMost(t *testing.T) {
 	checkMost(t, after([]int{1, 3, 2, 0}, 0, 3, 1), []int{9, 9, 5, 9}, 2)
 }
 
+func TestRemaining(t *testing.T) {
+	lot := []int{2, 0, 3, 1}
+	for gone := range lot {
+		r := after(lot, lot[:gone]...)
+		if n := r.Remaining(); n != len(lot)-gone {
+			t.Errorf("after %v are out, %d remain", lot[:gone], n)
+		}
+	}
+	r := after(lot)
+	r.Elect(rule.Round(make([]int, 4), 0), []int{0, 3})
+	if n := r.Remaining(); n != 3 || !slices.Equal(r.Left(), []bool{false, true, true, true}) {
+		t.Errorf("after 0 is elected, %d remain: %v", n, r.Left())
+	}
+	r.ElectAll(rule.Round(make([]int, 4), 0), make([]int, 4))
+	if n := r.Remaining(); n != 0 || slices.Contains(r.Left(), true) {
+		t.Errorf("after all are elected, %d remain: %v", n, r.Left())
+	}
+}
+
+// checkRound wants digits of what the candidates had and of what was lost, and who was elected and eliminated.
+func checkRound(t *testing.T, round api.Round, digits string, elected, out []int) {
+	t.Helper()
+	text := ""
+	for _, n := range append(slices.Clone(round.Had), round.Lost) {
+		text += textOf(n)
+	}
+	if text != digits || !slices.Equal(round.Elected, elected) || !slices.Equal(round.Out, out) {
+		t.Errorf("the round is %v; want %s, %v, %v", round, digits, elected, out)
+	}
+}
+
+func checkTies(t *testing.T, ties []api.Tie, want ...api.Tie) {
+	t.Helper()
+	if !slices.EqualFunc(ties, want, func(x, y api.Tie) bool { return slices.Equal(x.Among, y.Among) && x.Chosen == y.Chosen }) {
+		t.Errorf("the ties are %v; want %v", ties, want)
+	}
+}
+
 // A whole count: the rounds and the ties come in order, and the one that comes last in the lot is out.
 func TestRoundsOfACount(t *testing.T) {
 	lot := []int{2, 0, 3, 1}
 	given := slices.Clone(lot)
 	r := rule.NewRounds(lot)
 	among := []int{0, 1, 2, 9}[:3]
-	r.Eliminate(rule.Round([]int{1, 1, 1, 4}, 5), among)
-	r.Eliminate(rule.Round([]int{2, 0, 1, 4}, 6), []int{2})
-	r.Eliminate(rule.Round([]int{4, 0, 0, 4}, 7), []int{0, 3})
-	o := r.Elect(rule.Round([]int{8, 0, 0, 0}, 8), 0)
-	if !slices.Equal(o.Elected, []int{0}) || len(o.Rounds) != 4 || len(o.Ties) != 2 {
+	outs := []int{
+		r.Eliminate(rule.Round([]int{1, 1, 1, 4}, 5), among),
+		r.Eliminate(rule.Round([]int{2, 0, 1, 4}, 6), []int{2}),
+		r.Eliminate(rule.Round([]int{4, 0, 0, 4}, 7), []int{0, 3}),
+	}
+	if winner := r.Elect(rule.Round([]int{8, 0, 0, 0}, 8), []int{0}); winner != 0 || !slices.Equal(outs, []int{1, 2, 3}) {
+		t.Errorf("%v are out, and %d wins", outs, winner)
+	}
+	o := r.Outcome()
+	if !slices.Equal(o.Elected, []int{0}) || len(o.Rounds) != 4 {
 		t.Fatalf("the outcome is %v", o)
 	}
-	for i, want := range []string{"11145", "20146", "40047", "80008"} {
-		text, round := "", o.Rounds[i]
-		for _, n := range append(slices.Clone(round.Had), round.Lost) {
-			text += textOf(n)
-		}
-		elected, out := [][]int{nil, nil, nil, {0}}[i], [][]int{{1}, {2}, {3}, nil}[i]
-		if text != want || !slices.Equal(round.Elected, elected) || !slices.Equal(round.Out, out) {
-			t.Errorf("round %d is %v", i, round)
-		}
-	}
-	for i, want := range []api.Tie{{Among: []int{0, 1, 2}, Chosen: 1}, {Among: []int{0, 3}, Chosen: 3}} {
-		if x := o.Ties[i]; !slices.Equal(x.Among, want.Among) || x.Chosen != want.Chosen {
-			t.Errorf("tie %d is %v; want %v", i, x, want)
-		}
-	}
+	checkRound(t, o.Rounds[0], "11145", nil, []int{1})
+	checkRound(t, o.Rounds[1], "20146", nil, []int{2})
+	checkRound(t, o.Rounds[2], "40047", nil, []int{3})
+	checkRound(t, o.Rounds[3], "80008", []int{0}, nil)
+	checkTies(t, o.Ties, api.Tie{Among: []int{0, 1, 2}, Chosen: 1}, api.Tie{Among: []int{0, 3}, Chosen: 3})
 	o.Elected[0], o.Ties[0].Among[0] = 7, 7 // which are neither the round's nor an argument's
 	if o.Rounds[3].Elected[0] != 0 || among[0] != 0 || among[:4][3] != 9 || !slices.Equal(lot, given) {
 		t.Errorf("the memory of the outcome is shared: %v, %v, %v", o, among, lot)
 	}
+}
+
+// A count that elects several: the one that comes first in the lot is elected, of those with the greatest number where all are.
+func TestRoundsThatElectSeveral(t *testing.T) {
+	lot := []int{4, 2, 5, 0, 3, 1}
+	given := slices.Clone(lot)
+	r := rule.NewRounds(lot)
+	among := []int{0, 3, 5, 9}[:3]
+	winners := []int{r.Elect(rule.Round([]int{6, 1, 2, 6, 1, 6}, 5), among), r.Elect(rule.Round([]int{7, 2, 2, 3, 3, 4}, 6), []int{0})}
+	r.Eliminate(rule.Round([]int{4, 1, 2, 3, 3, 4}, 7), []int{1})
+	numbers := []int{9, 9, 2, 3, 3, 9}
+	r.ElectAll(rule.Round([]int{4, 0, 2, 3, 3, 4}, 8), numbers)
+	o := r.Outcome()
+	if !slices.Equal(winners, []int{5, 0}) || !slices.Equal(o.Elected, []int{5, 0, 4, 3, 2}) || len(o.Rounds) != 4 || !slices.Equal(numbers, []int{9, 9, 2, 3, 3, 9}) {
+		t.Fatalf("the winners are %v, and the outcome is %v", winners, o)
+	}
+	checkRound(t, o.Rounds[0], "6126165", []int{5}, nil)
+	checkRound(t, o.Rounds[1], "7223346", []int{0}, nil)
+	checkRound(t, o.Rounds[2], "4123347", nil, []int{1})
+	checkRound(t, o.Rounds[3], "4023348", []int{4, 3, 2}, nil)
+	checkTies(t, o.Ties, api.Tie{Among: []int{0, 3, 5}, Chosen: 5}, api.Tie{Among: []int{3, 4}, Chosen: 4})
+	o.Rounds[3].Elected[0], o.Rounds[0].Elected[0], o.Ties[0].Among[0] = 7, 7, 7 // which are neither the outcome's nor an argument's
+	if !slices.Equal(o.Elected, []int{5, 0, 4, 3, 2}) || among[0] != 0 || among[:4][3] != 9 || !slices.Equal(lot, given) {
+		t.Errorf("the memory of the outcome is shared: %v, %v, %v", o, among, lot)
+	}
+}
+
+// All that are level are elected in the order of the lot, and tied as long as there are several.
+func TestElectAllByLot(t *testing.T) {
+	lot := []int{2, 0, 3, 1}
+	r := rule.NewRounds(lot)
+	r.ElectAll(rule.Round(make([]int, 4), 0), []int{5, 5, 5, 5})
+	o := r.Outcome()
+	if !slices.Equal(o.Elected, lot) || len(o.Rounds) != 1 || !slices.Equal(o.Rounds[0].Elected, lot) {
+		t.Fatalf("the outcome is %v", o)
+	}
+	checkTies(t, o.Ties, api.Tie{Among: []int{0, 1, 2, 3}, Chosen: 2}, api.Tie{Among: []int{0, 1, 3}, Chosen: 0}, api.Tie{Among: []int{1, 3}, Chosen: 3})
 }

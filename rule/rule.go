@@ -1,4 +1,4 @@
-// Package rule holds what the voting rules have in common: what they require of their arguments, choices by lot, rounds of whole numbers, and the state of a count that eliminates one candidate after the other.
+// Package rule holds what the voting rules have in common: what they require of their arguments, choices by lot, rounds of numbers, and the state of a count in rounds, which elect and eliminate candidates.
 package rule
 
 import (
@@ -43,10 +43,13 @@ func Last(among, lot []int) (chosen int, ties []api.Tie) {
 }
 
 // Round returns a round with these totals of the candidates and of what is lost.
-func Round(had []int, lost int) api.Round {
-	round := api.Round{Lost: ratio.Whole(lost)}
+func Round(had []int, lost int) api.Round { return RoundOf(ratio.Whole, had, lost) }
+
+// RoundOf is like Round, but the totals stand for rational numbers other than themselves.
+func RoundOf(number func(n int) api.Ratio, had []int, lost int) api.Round {
+	round := api.Round{Lost: number(lost)}
 	for _, n := range had {
-		round.Had = append(round.Had, ratio.Whole(n))
+		round.Had = append(round.Had, number(n))
 	}
 	return round
 }

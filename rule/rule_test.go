@@ -175,6 +175,23 @@ func TestRound(t *testing.T) {
 	}
 }
 
+// Each total is turned into its number, in order.
+func TestRoundOf(t *testing.T) {
+	half := func(n int) api.Ratio {
+		x, _ := ratio.Of(int64(n), 2)
+		return x
+	}
+	round := rule.RoundOf(half, []int{4, 3, 0}, 7)
+	if len(round.Had) != 3 || len(round.Elected) != 0 || len(round.Out) != 0 {
+		t.Fatalf("the round is %v", round)
+	}
+	for i, x := range append(round.Had, round.Lost) {
+		if want := []string{"2", "3/2", "0", "7/2"}[i]; textOf(x) != want {
+			t.Errorf("number %d is %v; want %s", i, x, want)
+		}
+	}
+}
+
 func checkElect(t *testing.T, among, lot []int, want int, wantTies ...api.Tie) {
 	t.Helper()
 	o := rule.Elect(rule.Round([]int{4, 0, 9}, 2), among, lot)

@@ -17,7 +17,8 @@ func (s *state) run() api.Outcome {
 		had, lost, _ := Firsts(s.ballots, s.Left()) // its errors are those of profiles that are not valid
 		round := rule.Round(had, lost)
 		if winner, ok := s.Winner(had); ok {
-			return s.Elect(round, winner)
+			s.Elect(round, []int{winner})
+			return s.Outcome()
 		}
 		s.Eliminate(round, s.Least(had))
 	}
