@@ -42,7 +42,7 @@ func newState(p api.Profile, seats int, lot []int) *state {
 // count counts a round.
 func (s *state) count() {
 	had := s.totals()
-	round := rule.RoundOf(billionths, had, lost(s.votes, had))
+	round := rule.RoundOf(quotas.Ratio, had, lost(s.votes, had))
 	most := s.Most(had)
 	switch {
 	case s.Remaining() <= s.seats:
@@ -96,10 +96,4 @@ func lost(votes int, had []int) int {
 		votes -= n
 	}
 	return max(votes, 0)
-}
-
-// billionths returns a valid fixed-point number as a rational number.
-func billionths(n int) api.Ratio {
-	x, _ := quotas.Ratio(n)
-	return x
 }

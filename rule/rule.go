@@ -43,13 +43,17 @@ func Last(among, lot []int) (chosen int, ties []api.Tie) {
 }
 
 // Round returns a round with these totals of the candidates and of what is lost.
-func Round(had []int, lost int) api.Round { return RoundOf(ratio.Whole, had, lost) }
+func Round(had []int, lost int) api.Round {
+	return RoundOf(func(n int) (api.Ratio, api.Errno) { return ratio.Whole(n), api.OK }, had, lost)
+}
 
-// RoundOf is like Round, but the totals stand for rational numbers other than themselves.
-func RoundOf(number func(n int) api.Ratio, had []int, lost int) api.Round {
-	round := api.Round{Lost: number(lost)}
+// RoundOf is like Round, but the totals stand for rational numbers other than themselves. There is a number for each of them.
+func RoundOf(number func(n int) (api.Ratio, api.Errno), had []int, lost int) api.Round {
+	var round api.Round
+	round.Lost, _ = number(lost)
 	for _, n := range had {
-		round.Had = append(round.Had, number(n))
+		x, _ := number(n)
+		round.Had = append(round.Had, x)
 	}
 	return round
 }

@@ -177,10 +177,7 @@ func TestRound(t *testing.T) {
 
 // Each total is turned into its number, in order.
 func TestRoundOf(t *testing.T) {
-	half := func(n int) api.Ratio {
-		x, _ := ratio.Of(int64(n), 2)
-		return x
-	}
+	half := func(n int) (api.Ratio, api.Errno) { return ratio.Of(int64(n), 2) }
 	round := rule.RoundOf(half, []int{4, 3, 0}, 7)
 	if len(round.Had) != 3 || len(round.Elected) != 0 || len(round.Out) != 0 {
 		t.Fatalf("the round is %v", round)
