@@ -61,6 +61,11 @@ func RoundOf(number func(n int) (api.Ratio, api.Errno), had []int, lost int) api
 // Elect returns the outcome of this round alone, in which the one of among that comes first in the lot is elected to the only seat. Among is as for First.
 func Elect(round api.Round, among, lot []int) api.Outcome {
 	winner, ties := First(among, lot)
-	round.Elected = []int{winner}
-	return api.Outcome{Elected: []int{winner}, Rounds: []api.Round{round}, Ties: ties}
+	return Alone(round, []int{winner}, ties)
+}
+
+// Alone returns the outcome of this round alone, which elects these candidates by decisions with these ties. It keeps elected and ties.
+func Alone(round api.Round, elected []int, ties []api.Tie) api.Outcome {
+	round.Elected = slices.Clone(elected)
+	return api.Outcome{Elected: elected, Rounds: []api.Round{round}, Ties: ties}
 }

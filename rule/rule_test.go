@@ -214,6 +214,24 @@ func TestElect(t *testing.T) {
 	checkElect(t, []int{0, 2}, lot, 2, api.Tie{Among: []int{0, 2}, Chosen: 2})
 }
 
+// The round's list of the elected is its own.
+func TestAlone(t *testing.T) {
+	elected := []int{2, 0, 2, 9}[:3]
+	o := rule.Alone(rule.Round([]int{4, 0, 9}, 2), elected, []api.Tie{{Among: []int{0, 1}, Chosen: 0}})
+	if !slices.Equal(o.Elected, []int{2, 0, 2}) || len(o.Rounds) != 1 {
+		t.Fatalf("the outcome is %v", o)
+	}
+	checkRound(t, o.Rounds[0], "4092", []int{2, 0, 2}, nil)
+	checkTies(t, o.Ties, api.Tie{Among: []int{0, 1}, Chosen: 0})
+	o.Elected[0] = 7
+	if o.Rounds[0].Elected[0] != 2 {
+		t.Errorf("the round is %v", o.Rounds[0])
+	}
+	if none := rule.Alone(rule.Round([]int{1}, 0), nil, nil); len(none.Elected)+len(none.Ties)+len(none.Rounds[0].Elected) != 0 || len(none.Rounds) != 1 {
+		t.Errorf("the outcome with nobody elected is %v", none)
+	}
+}
+
 func textOf(x api.Ratio) string {
 	s, e := ratio.Text(x)
 	if e != api.OK {

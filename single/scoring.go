@@ -21,9 +21,7 @@ func (s scoring) count(p api.Profile, seats int, lot []int) (api.Outcome, api.Er
 	}
 	had, lost := s.total(p)
 	elected, ties := fill(seats, had, lot)
-	round := rule.Round(had, lost)
-	round.Elected = slices.Clone(elected)
-	return api.Outcome{Elected: elected, Rounds: []api.Round{round}, Ties: ties}, api.OK
+	return rule.Alone(rule.Round(had, lost), elected, ties), api.OK
 }
 
 // total returns the points that all ballots of p, which is valid, give to each candidate, and the number of ballots that are lost.
