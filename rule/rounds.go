@@ -18,6 +18,9 @@ func NewRounds(lot []int) Rounds {
 	return Rounds{lot: lot, left: slices.Sorted(slices.Values(lot))}
 }
 
+// Candidates returns the candidates that are left, in ascending order.
+func (r *Rounds) Candidates() []int { return slices.Clone(r.left) }
+
 // Left tells for each candidate whether it is left.
 func (r *Rounds) Left() []bool {
 	left := make([]bool, len(r.lot))

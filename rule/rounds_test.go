@@ -43,6 +43,36 @@ func TestLeft(t *testing.T) {
 	}
 }
 
+func TestCandidates(t *testing.T) {
+	lot := []int{2, 0, 3, 1}
+	for _, c := range []struct{ out, want []int }{
+		{nil, []int{0, 1, 2, 3}},
+		{[]int{2}, []int{0, 1, 3}},
+		{[]int{3, 0}, []int{1, 2}},
+		{[]int{1, 3, 0}, []int{2}},
+	} {
+		r := after(lot, c.out...)
+		l := r.Candidates()
+		if !slices.Equal(l, c.want) {
+			t.Errorf("after %v are out, the candidates are %v", c.out, l)
+		}
+		l[0] = 7 // which is not the state's
+		_ = append(l[:0], 8)
+		if l := r.Candidates(); !slices.Equal(l, c.want) {
+			t.Errorf("after %v are out, and a change, the candidates are %v", c.out, l)
+		}
+	}
+	r := rule.NewRounds(lot)
+	r.Elect(rule.Round(make([]int, 4), 0), []int{0, 3})
+	if l := r.Candidates(); !slices.Equal(l, []int{1, 2, 3}) {
+		t.Errorf("after 0 is elected, the candidates are %v", l)
+	}
+	r.ElectAll(rule.Round(make([]int, 4), 0), make([]int, 4))
+	if l := r.Candidates(); len(l) > 0 {
+		t.Errorf("after all are elected, the candidates are %v", l)
+	}
+}
+
 func checkWinner(t *testing.T, r rule.Rounds, had []int, want int, wantOK bool) {
 	t.Helper()
 	if c, ok := r.Winner(had); c != want || ok != wantOK {

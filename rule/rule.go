@@ -12,8 +12,8 @@ import (
 
 // Check returns ErrBad unless p is valid and has ballots of the kind; otherwise ErrArg unless seats is between 1 and most and lot is a permutation of the candidates.
 func Check(p api.Profile, kind uint8, seats, most int, lot []int) api.Errno {
-	if profile.Check(p) != api.OK || p.Kind != kind {
-		return api.ErrBad
+	if e := CheckKind(p, kind); e != api.OK {
+		return e
 	}
 	if seats < 1 || seats > most || !IsLot(lot, p.Cands) {
 		return api.ErrArg
@@ -21,9 +21,20 @@ func Check(p api.Profile, kind uint8, seats, most int, lot []int) api.Errno {
 	return api.OK
 }
 
+// CheckKind returns ErrBad unless p is valid and has ballots of the kind.
+func CheckKind(p api.Profile, kind uint8) api.Errno {
+	if profile.Check(p) != api.OK || p.Kind != kind {
+		return api.ErrBad
+	}
+	return api.OK
+}
+
 // IsLot reports whether lot has each of cands candidates once, that is, whether it is a ranking of all of them. There is no lot if cands is not between 1 and MaxCands.
-func IsLot(lot []int, cands int) bool {
-	return len(lot) == cands && ballot.Check(api.Ballot{Kind: api.KindRank, Marks: lot}, cands) == api.OK
+func IsLot(lot []int, cands int) bool { return len(lot) == cands && IsRanking(lot, cands) }
+
+// IsRanking reports whether l has some of cands candidates, each at most once. Nothing is a ranking if cands is not between 1 and MaxCands.
+func IsRanking(l []int, cands int) bool {
+	return ballot.Check(api.Ballot{Kind: api.KindRank, Marks: l}, cands) == api.OK
 }
 
 // First returns the one of among that comes first in the lot, and the tie if there are several. Among is in ascending order, and at least one of it is in the lot.

@@ -26,6 +26,13 @@ func checkCheck(t *testing.T, p api.Profile, kind uint8, seats, most int, lot []
 	}
 }
 
+func checkKind(t *testing.T, p api.Profile, kind uint8, want api.Errno) {
+	t.Helper()
+	if e := rule.CheckKind(p, kind); e != want {
+		t.Errorf("CheckKind(%v, %d) = %d; want %d", p, kind, int(e), int(want))
+	}
+}
+
 func TestCheckOfProfiles(t *testing.T) {
 	lot := []int{1, 2, 0}
 	for _, p := range profiles() {
@@ -35,6 +42,7 @@ func TestCheckOfProfiles(t *testing.T) {
 				want = api.OK
 			}
 			checkCheck(t, p, uint8(kind), 1, 1, lot, want)
+			checkKind(t, p, uint8(kind), want)
 		}
 		wrong := []api.Profile{{}, {Cands: 3}, {Cands: 0, Kind: p.Kind}, {Cands: 11, Kind: p.Kind}, {Cands: 2, Kind: p.Kind, Rows: p.Rows}}
 		wrong = append(wrong, api.Profile{Cands: 3, Kind: p.Kind, Rows: make([]api.Row, 65)}) // ErrFull
@@ -42,6 +50,7 @@ func TestCheckOfProfiles(t *testing.T) {
 		for _, q := range wrong {
 			checkCheck(t, q, q.Kind, 1, 1, lot, api.ErrBad)
 			checkCheck(t, q, q.Kind, 0, 1, nil, api.ErrBad)
+			checkKind(t, q, q.Kind, api.ErrBad)
 		}
 		checkCheck(t, p, 0, 0, 1, nil, api.ErrBad)
 	}
@@ -99,6 +108,35 @@ func TestIsLot(t *testing.T) {
 		checkIsLot(t, []int{0, 1}, cands, false)
 	}
 	checkIsLot(t, make([]int, 1<<16), 1<<16, false)
+}
+
+func checkIsRanking(t *testing.T, l []int, cands int, want bool) {
+	t.Helper()
+	if rule.IsRanking(l, cands) != want {
+		t.Errorf("IsRanking(%v, %d) = %v", l[:min(len(l), 50)], cands, !want)
+	}
+}
+
+func TestIsRanking(t *testing.T) {
+	for cands := 1; cands <= 10; cands++ {
+		for _, l := range [][]int{nil, {}, {0}, {cands - 1}} {
+			checkIsRanking(t, l, cands, true)
+		}
+		for _, l := range [][]int{{cands}, {-1}, {0, 0}, {cands - 1, cands - 1}, {0, cands}, {-1, 0}, {math.MinInt}, {math.MaxInt}, {1<<32 + cands - 1}} {
+			checkIsRanking(t, l, cands, false)
+		}
+	}
+	for _, l := range [][]int{{2, 0}, {3, 2, 1}, {1, 3, 0, 2}} {
+		checkIsRanking(t, l, 4, true)
+	}
+	for _, l := range [][]int{{2, 0, 2}, {3, 2, 1, 0, 3}, {0, 1, 2, 3, 4}, {1, 4}} {
+		checkIsRanking(t, l, 4, false)
+	}
+	for _, cands := range []int{math.MinInt, -1, 0, 11, 1<<32 + 2, math.MaxInt} {
+		checkIsRanking(t, nil, cands, false)
+		checkIsRanking(t, []int{0, 1}, cands, false)
+	}
+	checkIsRanking(t, make([]int, 1<<16), 10, false)
 }
 
 func checkFirst(t *testing.T, among, lot []int, want int, wantTies ...api.Tie) {
